@@ -1,0 +1,1 @@
+"""Pairwise averaging over exact rational numbers."""

@@ -1,0 +1,96 @@
+"""Sequences of averages: two values at a time are replaced by their mean."""
+
+MOST_VALUES = 8
+LARGEST_VALUE = 99
+MOST_PAIRS = 20
+
+OUTSIDE_LIMITS = -22
+
+
+def apply_averages(values, pairs):
+    """Answer whether all values are equal after the averages (1 or 0), then the values."""
+    if not values_are_allowed(values) or not pairs_are_allowed(pairs, len(values)):
+        return [OUTSIDE_LIMITS]
+    averaged = values_after(rationals_from(values), pairs)
+    return [equality_of(averaged)] + numbers_from(averaged)
+
+
+def values_are_allowed(values):
+    """Tell whether the number of values and every value lie within the limits."""
+    if not is_count(len(values)):
+        return False
+    return all([0 <= value <= LARGEST_VALUE for value in values])
+
+
+def is_count(count):
+    """Tell whether there may be so many values."""
+    return 1 <= count <= MOST_VALUES
+
+
+def pairs_are_allowed(pairs, count):
+    """Tell whether the flat list holds whole pairs, not too many, of two different existing indices."""
+    if len(pairs) % 2 != 0 or len(pairs) > 2 * MOST_PAIRS:
+        return False
+    for i, j in split_pairs(pairs):
+        if i == j or not is_index(i, count) or not is_index(j, count):
+            return False
+    return True
+
+
+def is_index(index, count):
+    """Tell whether there is a value with this index."""
+    return 0 <= index < count
+
+
+def split_pairs(pairs):
+    """Give the flat list as a list of tuples of two indices."""
+    return [(pairs[k], pairs[k + 1]) for k in range(0, len(pairs), 2)]
+
+
+def rationals_from(integers):
+    """Give each whole number as a numerator and a denominator."""
+    return [(integer, 1) for integer in integers]
+
+
+def values_after(rationals, pairs):
+    """Give the rational numbers that stand after all averages, in a new list."""
+    result = list(rationals)
+    for i, j in split_pairs(pairs):
+        middle = mean(result[i], result[j])
+        result[i] = middle
+        result[j] = middle
+    return result
+
+
+def mean(first, second):
+    """Give the mean of two rational numbers, in lowest terms."""
+    numerator = first[0] * second[1] + second[0] * first[1]
+    denominator = 2 * first[1] * second[1]
+    divisor = greatest_common_divisor(numerator, denominator)
+    return (numerator // divisor, denominator // divisor)
+
+
+def greatest_common_divisor(larger, smaller):
+    """Give the greatest whole number that divides both; not both are 0."""
+    while smaller != 0:
+        rest = larger % smaller
+        larger = smaller
+        smaller = rest
+    return larger
+
+
+def equality_of(rationals):
+    """Answer 1 if all rational numbers are equal, otherwise 0."""
+    # Lowest terms are unique, so equal numbers are equal tuples.
+    if all([rational == rationals[0] for rational in rationals]):
+        return 1
+    return 0
+
+
+def numbers_from(rationals):
+    """Give each numerator and its denominator, one behind the other in one flat list."""
+    numbers = []
+    for numerator, denominator in rationals:
+        numbers.append(numerator)
+        numbers.append(denominator)
+    return numbers
