@@ -4,6 +4,7 @@ MOST_VALUES = 8
 LARGEST_VALUE = 99
 MOST_PAIRS = 20
 
+NO_SUCH_INDEX = -2
 OUTSIDE_LIMITS = -22
 
 
@@ -13,6 +14,18 @@ def apply_averages(values, pairs):
         return [OUTSIDE_LIMITS]
     averaged = values_after(rationals_from(values), pairs)
     return [equality_of(averaged)] + numbers_from(averaged)
+
+
+def influence(count, index, pairs):
+    """Answer count, then the values after the averages if the value at index is 1 and all others are 0 at first."""
+    if not is_count(count):
+        return [OUTSIDE_LIMITS]
+    if not is_index(index, count):
+        return [NO_SUCH_INDEX]
+    if not pairs_are_allowed(pairs, count):
+        return [OUTSIDE_LIMITS]
+    initial = [1 if place == index else 0 for place in range(count)]
+    return [count] + numbers_from(values_after(rationals_from(initial), pairs))
 
 
 def values_are_allowed(values):

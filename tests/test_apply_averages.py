@@ -96,7 +96,7 @@ class RationalTest(Case):
     def test_every_denominator_is_positive_and_prime_to_its_numerator(self):
         for seed in range(30):
             answer = apply_averages(mixed_values(6, seed), mixed_pairs(6, 20, seed))
-            for numerator, denominator in zip(answer[1::2], answer[2::2]):
+            for numerator, denominator in zip(answer[1::2], answer[2::2], strict=True):
                 self.assertGreaterEqual(denominator, 1)
                 self.assertEqual(math.gcd(numerator, denominator), 1)
 
