@@ -24,8 +24,15 @@ def influence(count, index, pairs):
         return [NO_SUCH_INDEX]
     if not pairs_are_allowed(pairs, count):
         return [OUTSIDE_LIMITS]
-    initial = [1 if place == index else 0 for place in range(count)]
-    return [count] + numbers_from(values_after(rationals_from(initial), pairs))
+    return [count] + numbers_from(influence_after(count, index, pairs))
+
+
+def always_equalizes(count, pairs):
+    """Answer whether the averages make all values equal, whatever they are (1 or 0)."""
+    if not is_count(count) or not pairs_are_allowed(pairs, count):
+        return [OUTSIDE_LIMITS]
+    # Averages are linear: if every influence comes out equal, so does every sum of multiples of them.
+    return [min([equality_of(influence_after(count, index, pairs)) for index in range(count)])]
 
 
 def values_are_allowed(values):
@@ -73,6 +80,12 @@ def values_after(rationals, pairs):
         result[i] = middle
         result[j] = middle
     return result
+
+
+def influence_after(count, index, pairs):
+    """Give the rational numbers that stand after all averages if the value at index is 1 and all others are 0."""
+    initial = [1 if place == index else 0 for place in range(count)]
+    return values_after(rationals_from(initial), pairs)
 
 
 def mean(first, second):
