@@ -3,9 +3,11 @@
 MOST_VALUES = 8
 LARGEST_VALUE = 99
 MOST_PAIRS = 20
+COUNTS_WITH_PLAN = (1, 2, 4, 8)
 
 NO_SUCH_INDEX = -2
 OUTSIDE_LIMITS = -22
+NO_PLAN = -33
 
 
 def apply_averages(values, pairs):
@@ -33,6 +35,16 @@ def always_equalizes(count, pairs):
         return [OUTSIDE_LIMITS]
     # Averages are linear: if every influence comes out equal, so does every sum of multiples of them.
     return [min([equality_of(influence_after(count, index, pairs)) for index in range(count)])]
+
+
+def plan(count):
+    """Answer the number of pairs in the plan for count values, then the pairs."""
+    if not is_count(count):
+        return [OUTSIDE_LIMITS]
+    if count not in COUNTS_WITH_PLAN:
+        return [NO_PLAN]
+    pairs = planned_pairs(count)
+    return [len(pairs) // 2] + pairs
 
 
 def values_are_allowed(values):
@@ -65,6 +77,19 @@ def is_index(index, count):
 def split_pairs(pairs):
     """Give the flat list as a list of tuples of two indices."""
     return [(pairs[k], pairs[k + 1]) for k in range(0, len(pairs), 2)]
+
+
+def planned_pairs(count):
+    """Give the plan as a flat list; count is a power of two."""
+    pairs = []
+    distance = 1
+    while distance < count:
+        for i in range(count):
+            # Only the lower half of each block of twice the distance: the upper half is its partners.
+            if i // distance % 2 == 0:
+                pairs.extend([i, i + distance])
+        distance = 2 * distance
+    return pairs
 
 
 def rationals_from(integers):

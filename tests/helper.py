@@ -6,6 +6,7 @@ PLAN_FOR_FOUR = [0, 1, 2, 3, 0, 2, 1, 3]
 PLAN_FOR_EIGHT = [0, 1, 2, 3, 4, 5, 6, 7,
                   0, 2, 1, 3, 4, 6, 5, 7,
                   0, 4, 1, 5, 2, 6, 3, 7]
+PLANS = {1: [], 2: [0, 1], 4: PLAN_FOR_FOUR, 8: PLAN_FOR_EIGHT}
 
 # Each holds for any number of values from 2 on.
 PAIRS_OUTSIDE_LIMITS = {

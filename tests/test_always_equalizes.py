@@ -5,6 +5,7 @@ from helper import (
     PAIRS_OUTSIDE_LIMITS,
     PLAN_FOR_EIGHT,
     PLAN_FOR_FOUR,
+    PLANS,
     FixedList,
     assert_whole_numbers,
     mixed_pairs,
@@ -12,8 +13,6 @@ from helper import (
     reckon,
 )
 from meanpairs.averages import always_equalizes, apply_averages, influence
-
-PLANS = {1: [], 2: [0, 1], 4: PLAN_FOR_FOUR, 8: PLAN_FOR_EIGHT}
 
 
 def split(pairs):
