@@ -47,6 +47,14 @@ def plan(count):
     return [len(pairs) // 2] + pairs
 
 
+def spread(values, pairs):
+    """Answer 0, then the largest minus the smallest value after the averages, then the sum of their squares."""
+    if not values_are_allowed(values) or not pairs_are_allowed(pairs, len(values)):
+        return [OUTSIDE_LIMITS]
+    averaged = values_after(rationals_from(values), pairs)
+    return [0] + numbers_from([largest_difference(averaged), sum_of_squares(averaged)])
+
+
 def values_are_allowed(values):
     """Tell whether the number of values and every value lie within the limits."""
     if not is_count(len(values)):
@@ -114,9 +122,49 @@ def influence_after(count, index, pairs):
 
 
 def mean(first, second):
-    """Give the mean of two rational numbers, in lowest terms."""
-    numerator = first[0] * second[1] + second[0] * first[1]
-    denominator = 2 * first[1] * second[1]
+    """Give the mean of two rational numbers."""
+    numerator, denominator = added(first, second)
+    return in_lowest_terms(numerator, 2 * denominator)
+
+
+def added(first, second):
+    """Give the sum of two rational numbers."""
+    return in_lowest_terms(first[0] * second[1] + second[0] * first[1], first[1] * second[1])
+
+
+def absolute_difference(first, second):
+    """Give how far two rational numbers lie from each other."""
+    return in_lowest_terms(abs(first[0] * second[1] - second[0] * first[1]), first[1] * second[1])
+
+
+def is_less(first, second):
+    """Tell whether the first rational number is less than the second."""
+    # Denominators are positive, so multiplying by both of them keeps the order.
+    return first[0] * second[1] < second[0] * first[1]
+
+
+def largest_difference(rationals):
+    """Give the largest rational number minus the smallest one."""
+    smallest = rationals[0]
+    largest = rationals[0]
+    for rational in rationals:
+        if is_less(rational, smallest):
+            smallest = rational
+        if is_less(largest, rational):
+            largest = rational
+    return absolute_difference(smallest, largest)
+
+
+def sum_of_squares(rationals):
+    """Give the sum of the squares of the rational numbers."""
+    total = (0, 1)
+    for numerator, denominator in rationals:
+        total = added(total, (numerator * numerator, denominator * denominator))
+    return total
+
+
+def in_lowest_terms(numerator, denominator):
+    """Give the rational number whose numerator and denominator have no common divisor but 1."""
     divisor = greatest_common_divisor(numerator, denominator)
     return (numerator // divisor, denominator // divisor)
 

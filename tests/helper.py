@@ -8,6 +8,17 @@ PLAN_FOR_EIGHT = [0, 1, 2, 3, 4, 5, 6, 7,
                   0, 4, 1, 5, 2, 6, 3, 7]
 PLANS = {1: [], 2: [0, 1], 4: PLAN_FOR_FOUR, 8: PLAN_FOR_EIGHT}
 
+VALUES_OUTSIDE_LIMITS = {
+    "empty": [],
+    "9 elements": [1] * 9,
+    "10 elements": [1] * 10,
+    "element 100": [100],
+    "element 100, first": [100, 0],
+    "element 100, last": [0, 1, 2, 3, 4, 5, 6, 100],
+    "element 4294967295": [4294967295],
+    "element 4294967295, last": [0, 4294967295],
+}
+
 # Each holds for any number of values from 2 on.
 PAIRS_OUTSIDE_LIMITS = {
     "odd length, 1": [0],

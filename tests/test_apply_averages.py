@@ -6,6 +6,7 @@ from helper import (
     PAIRS_OUTSIDE_LIMITS,
     PLAN_FOR_EIGHT,
     PLAN_FOR_FOUR,
+    VALUES_OUTSIDE_LIMITS,
     FixedList,
     assert_whole_numbers,
     flat,
@@ -130,17 +131,7 @@ class EdgeTest(Case):
 
 class RefusalTest(Case):
     def test_values_outside_their_limits(self):
-        refused = {
-            "empty": [],
-            "9 elements": [1] * 9,
-            "10 elements": [1] * 10,
-            "element 100": [100],
-            "element 100, last": [0, 1, 2, 3, 4, 5, 6, 100],
-            "element 100, first": [100, 0],
-            "element 4294967295": [4294967295],
-            "element 4294967295, last": [0, 4294967295],
-        }
-        for name, values in refused.items():
+        for name, values in VALUES_OUTSIDE_LIMITS.items():
             with self.subTest(name):
                 self.check(values, [], [-22])
 
