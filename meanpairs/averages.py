@@ -3,6 +3,7 @@
 MOST_VALUES = 8
 LARGEST_VALUE = 99
 MOST_PAIRS = 20
+MOST_STEPS = 12
 COUNTS_WITH_PLAN = (1, 2, 4, 8)
 
 NO_SUCH_INDEX = -2
@@ -55,6 +56,14 @@ def spread(values, pairs):
     return [0] + numbers_from([largest_difference(averaged), sum_of_squares(averaged)])
 
 
+def greedy_averaging(steps, values):
+    """Answer whether all values are equal after so many greedy averages (1 or 0), then the values."""
+    if not values_are_allowed(values) or not is_step_count(steps):
+        return [OUTSIDE_LIMITS]
+    averaged = values_after_greedy(rationals_from(values), steps)
+    return [equality_of(averaged)] + numbers_from(averaged)
+
+
 def values_are_allowed(values):
     """Tell whether the number of values and every value lie within the limits."""
     if not is_count(len(values)):
@@ -65,6 +74,11 @@ def values_are_allowed(values):
 def is_count(count):
     """Tell whether there may be so many values."""
     return 1 <= count <= MOST_VALUES
+
+
+def is_step_count(steps):
+    """Tell whether there may be so many greedy averages."""
+    return 0 <= steps <= MOST_STEPS
 
 
 def pairs_are_allowed(pairs, count):
@@ -113,6 +127,28 @@ def values_after(rationals, pairs):
         result[i] = middle
         result[j] = middle
     return result
+
+
+def values_after_greedy(rationals, steps):
+    """Give the rational numbers that stand after so many greedy averages, in a new list."""
+    result = list(rationals)
+    for step in range(steps):
+        result = values_after(result, best_pair(result))
+    return result
+
+
+def best_pair(rationals):
+    """Give the two indices of the best pair as a list; it is empty where there is but one rational number."""
+    best = []
+    largest = (0, 1)
+    for i in range(len(rationals)):
+        for j in range(i + 1, len(rationals)):
+            difference = absolute_difference(rationals[i], rationals[j])
+            # Of several best pairs the first one stays, so a later one has to exceed it.
+            if best == [] or is_less(largest, difference):
+                best = [i, j]
+                largest = difference
+    return best
 
 
 def influence_after(count, index, pairs):

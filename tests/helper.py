@@ -1,6 +1,7 @@
 """What the tests share: an own reckoning with fractions, and lists that can't be changed."""
 
 from fractions import Fraction
+from itertools import combinations
 
 PLAN_FOR_FOUR = [0, 1, 2, 3, 0, 2, 1, 3]
 PLAN_FOR_EIGHT = [0, 1, 2, 3, 4, 5, 6, 7,
@@ -88,3 +89,14 @@ def assert_whole_numbers(case, answer):
     case.assertIs(type(answer), list)
     for number in answer:
         case.assertIs(type(number), int)
+
+
+def greedy_pairs(values, steps):
+    """The best pairs, one behind the other in one flat list, that so many greedy averages take."""
+    pairs = []
+    for _ in range(steps if len(values) > 1 else 0):
+        standing = reckon(values, pairs)
+        differences = {(i, j): abs(standing[i] - standing[j]) for i, j in combinations(range(len(values)), 2)}
+        largest = max(differences.values())
+        pairs += min(pair for pair, difference in differences.items() if difference == largest)
+    return pairs
