@@ -159,8 +159,8 @@ def influence_after(count, index, pairs):
 
 def mean(first, second):
     """Give the mean of two rational numbers."""
-    numerator, denominator = added(first, second)
-    return in_lowest_terms(numerator, 2 * denominator)
+    total = added(first, second)
+    return in_lowest_terms(total[0], 2 * total[1])
 
 
 def added(first, second):
